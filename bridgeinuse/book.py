@@ -1,0 +1,14 @@
+"""The book: of each day and span the most that it bore, when it did first, and who was on it then."""
+
+
+class Book:
+    def __init__(self):
+        # From (day, span) to (how much, the time, the vehicles' numbers).
+        self.lines = {}
+
+    def write_tick(self, day, time, vehicles_by_span):
+        for span, vehicles in vehicles_by_span.items():
+            load = sum([v.weight for v in vehicles])
+            # Only a greater load is written over: of equal ones the first is meant.
+            if (day, span) not in self.lines or load > self.lines[(day, span)][0]:
+                self.lines[(day, span)] = (load, time, tuple([v.number for v in vehicles]))
