@@ -21,6 +21,22 @@ class Vehicle:
         self.cell = 0
         self.ended = 0
 
+    def twin(self):
+        other = Vehicle(self.number, self.side, self.weight)
+        other.status = self.status
+        other.cell = self.cell
+        other.ended = self.ended
+        return other
+
+
+def weight_together(vehicles):
+    return sum([v.weight for v in vehicles])
+
+
+# The twins of some vehicles, out of all twins.
+def twins_of(some, twins):
+    return [twins[v.number] for v in some]
+
 
 def spans_cell_by_cell(sizes):
     spans = []
@@ -32,6 +48,7 @@ def spans_cell_by_cell(sizes):
 class Lane:
     def __init__(self, turn, sizes, limits):
         self.turn = turn
+        self.sizes = sizes
         self.cell_spans = spans_cell_by_cell(sizes)
         self.limits = limits
         self.time = 0
@@ -126,11 +143,34 @@ class Lane:
         span = self.cell_spans[cell]
         if span == span_before:
             return True
-        there = [v.weight for v in ahead if self.cell_spans[v.cell] == span]
-        return sum(there) + weight <= self.limits[span]
+        there = [v for v in ahead if self.cell_spans[v.cell] == span]
+        return weight_together(there) + weight <= self.limits[span]
 
     def who_by_span(self):
         there = {}
         for vehicle in self.crossing:
             there.setdefault(self.cell_spans[vehicle.cell], []).append(vehicle)
         return there
+
+    def span_loads(self):
+        there = self.who_by_span()
+        return [weight_together(there.get(span, [])) for span in range(len(self.sizes))]
+
+    def twin(self):
+        other = Lane(self.turn, self.sizes, self.limits)
+        other.time = self.time
+        other.open_side = self.open_side
+        other.entered = self.entered
+        other.vehicles = [v.twin() for v in self.vehicles]
+        other.waiting = [twins_of(queue, other.vehicles) for queue in self.waiting]
+        other.crossing = twins_of(self.crossing, other.vehicles)
+        return other
+
+    # Only for a vehicle that will leave, else it wouldn't end. It looks ahead on a twin,
+    # so that here the ticks don't happen.
+    def ticks_till_left(self, number, may_enter):
+        other = self.twin()
+        vehicle = other.vehicles[number]
+        while vehicle.status != HAS_LEFT:
+            other.tick(may_enter)
+        return other.time - self.time

@@ -7,6 +7,9 @@ PUT_RIGHT = 3
 
 NO_SOURCE = -1
 
+DAYS_IN_SIGHT = 131072
+NOT_IN_SIGHT = -1
+
 
 class Entry:
     def __init__(self, kind, part, day, crack, about):
@@ -16,6 +19,14 @@ class Entry:
         self.crack = crack
         # The earlier entry that is struck or put right; the other kinds don't use it.
         self.about = about
+
+
+# What the entries that count let one know of one part on one day.
+class Known:
+    def __init__(self, source, crack, bears):
+        self.source = source
+        self.crack = crack
+        self.bears = bears
 
 
 class Records:
@@ -54,18 +65,27 @@ class Records:
     def counting_now(self):
         return self.counting(len(self.entries))
 
-    def source_on(self, says, part, day):
-        source = NO_SOURCE
+    def sources_on(self, says, day):
+        sources = [NO_SOURCE] * len(self.parts)
         for number in says:
             entry = self.entries[number]
-            if entry.part == part and entry.day <= day:
-                # Of one day the one made last is meant, and that comes later here.
-                if source == NO_SOURCE or entry.day >= self.entries[source].day:
-                    source = number
-        return source
+            source = sources[entry.part]
+            # Of one day the one made last is meant, and that comes later here.
+            if entry.day <= day and (source == NO_SOURCE or entry.day >= self.entries[source].day):
+                sources[entry.part] = number
+        return sources
 
-    def crack_on(self, says, part, day):
-        source = self.source_on(says, part, day)
+    def known_on(self, says, day):
+        sources = self.sources_on(says, day)
+        return [self.known_by(says, part, source, day) for part, source in enumerate(sources)]
+
+    def known_by(self, says, part, source, day):
+        sound = self.parts[part][0]
+        cost = self.parts[part][1]
+        crack = self.crack_by(says, part, source, day)
+        return Known(source, crack, max(0, sound - cost * crack))
+
+    def crack_by(self, says, part, source, day):
         if source == NO_SOURCE:
             return self.grown(part, day)
         return says[source] + self.grown(part, day - self.entries[source].day)
@@ -74,13 +94,52 @@ class Records:
         growth = self.parts[part][2]
         return (growth * days + 99) // 100
 
-    def bears(self, says, part, day):
-        sound = self.parts[part][0]
-        cost = self.parts[part][1]
-        return max(0, sound - cost * self.crack_on(says, part, day))
-
     def all_bear(self, says, day):
-        return [self.bears(says, part, day) for part in range(len(self.parts))]
+        return [known.bears for known in self.known_on(says, day)]
+
+    def limit_on(self, says, day):
+        return min(self.all_bear(says, day))
+
+    # All entries are of today or earlier days, so from today on cracks only grow and the
+    # limit never rises: the first day below is found by halving.
+    def days_till_below(self, much):
+        says = self.counting_now()
+        soonest = 0
+        latest = DAYS_IN_SIGHT - 1
+        if self.limit_on(says, self.today + latest) >= much:
+            return NOT_IN_SIGHT
+        while soonest < latest:
+            middle = (soonest + latest) // 2
+            if self.limit_on(says, self.today + middle) < much:
+                latest = middle
+            else:
+                soonest = middle + 1
+        return soonest
+
+    def last_days_found(self):
+        days = [0] * len(self.parts)
+        for number in self.counting_now():
+            entry = self.entries[number]
+            if entry.kind == FOUND:
+                days[entry.part] = max(days[entry.part], entry.day)
+        return days
+
+    def due_parts(self, days):
+        return [part for part, day in enumerate(self.last_days_found()) if self.today - day > days]
+
+    # The postings stand in the order of their days, and there's always one of the day 0.
+    def posted_on(self, day):
+        return [limit for posted_day, limit in self.postings if posted_day <= day][-1]
+
+    # Pairs of such a day and how much too much was posted on it.
+    def wrong_days(self, first, last):
+        says = self.counting_now()
+        wrong = []
+        for day in range(first, last + 1):
+            excess = self.posted_on(day) - self.limit_on(says, day)
+            if excess > 0:
+                wrong.append((day, excess))
+        return wrong
 
     def pass_days(self, days):
         self.today += days

@@ -1,7 +1,6 @@
 """Writes calls as the interface asks for them, and takes the answers apart."""
 
-from bridgeinuse.office import ANSWERS_BY_CALL, answers
-from bridgeinuse.session import Session
+from bridgeinuse.office import answers
 
 MOST = 4294967295
 
@@ -59,6 +58,50 @@ def where(vehicle):
     return [11, vehicle]
 
 
+def when(vehicle):
+    return [12, vehicle]
+
+
+def loads():
+    return [13]
+
+
+def queue(side):
+    return [14, side]
+
+
+def known(part, on_day, n):
+    return [15, part, on_day, n]
+
+
+def limit(on_day, n):
+    return [16, on_day, n]
+
+
+def wrong(first, to):
+    return [17, first, to]
+
+
+def falls(much):
+    return [18, much]
+
+
+def due(days):
+    return [19, days]
+
+
+def exposed():
+    return [20]
+
+
+def book(on_day):
+    return [21, on_day]
+
+
+def state():
+    return [22]
+
+
 def take_apart(given, many):
     taken = []
     place = 0
@@ -73,8 +116,7 @@ def take_apart(given, many):
 
 def ask(*calls):
     """What each call answers: a list a call."""
-    line = [number for call in calls for number in call]
-    return take_apart(answers(line), len(calls))
+    return take_apart(answers(flat(calls)), len(calls))
 
 
 def last(*calls):
@@ -85,9 +127,21 @@ def sound_span(cells, bears):
     return (cells, bears, 0, 0)
 
 
-def bridge_after(*calls):
-    """The bridge itself behind these calls, for what no call tells yet."""
-    session = Session([number for call in calls for number in call])
-    while not session.is_done():
-        ANSWERS_BY_CALL[session.take()](session)
-    return session.bridge
+def flat(calls):
+    return [number for call in calls for number in call]
+
+
+def lists_of(answer):
+    """The lists behind an answer's number."""
+    lists = []
+    place = 1
+    while place < len(answer):
+        lists.append(answer[place + 1:place + 1 + answer[place]])
+        assert len(lists[-1]) == answer[place], "a list is shorter than told"
+        place += 1 + answer[place]
+    return lists
+
+
+def closing(part=0):
+    """Calls behind which a bridge is closed whose part loses by a crack."""
+    return [found(part, 0, 1000), post()]

@@ -177,6 +177,31 @@ class Language(unittest.TestCase):
                 taken = isinstance(parent, ast.Call) and getattr(parent.func, "id", "") in WALKERS and parent.args[0] is node
                 self.assertTrue(walked or taken, place)
 
+    def test_names_of_python_are_called_on_the_spot(self):
+        for place, node in self.each_node():
+            if isinstance(node, ast.Name) and node.id in dir(builtins):
+                self.assertTrue(isinstance(node.parent, ast.Call) and node.parent.func is node, place)
+            if isinstance(node, ast.Name):
+                self.assertNotIn(node.id, ("sys", "print", "chr"), place)
+            if isinstance(node, ast.Call):
+                self.assertEqual(node.keywords, [], place)
+
+    def test_sets_are_neither_kept_nor_walked(self):
+        for place, node in self.each_node():
+            if isinstance(node, ast.Call) and getattr(node.func, "id", "") in ("set", "frozenset"):
+                parent = node.parent
+                self.assertTrue(isinstance(parent, ast.Call) and parent.func.id in ("sorted", "len"), place)
+
+    def test_what_the_package_does_without(self):
+        for place, node in self.each_node():
+            self.assertNotIsInstance(node, (ast.Try, ast.Raise, ast.Lambda, ast.JoinedStr, ast.Set), place)
+            if isinstance(node, ast.Constant) and isinstance(node.value, str):
+                self.assertNotRegex(node.value, r"[%\\]", place)
+            if isinstance(node, ast.FunctionDef) and node.name == "__init__":
+                self.assertFalse(any(isinstance(part, ast.Return) for part in ast.walk(node)), place)
+            if isinstance(node, ast.FunctionDef) and node.name.startswith("_"):
+                self.assertEqual(node.name, "__init__", place)
+
     def test_nothing_is_kept_at_the_top(self):
         for path in files():
             tree = tree_of(path)
